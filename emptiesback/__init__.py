@@ -1,0 +1,1 @@
+"""Emptiesback: empties traded for full bottles."""

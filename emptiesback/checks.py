@@ -1,0 +1,32 @@
+"""Which numbers and which kinds of pieces are allowed."""
+
+from emptiesback.errors import InvalidNumber
+
+MAX_NUMBER = 10 ** 18
+MAX_KIND_LENGTH = 8
+DRINK = "drink"
+
+
+def is_integer(value):
+    """Return whether a value is an integer."""
+    # For Python, True and False are integers; for the package they are not.
+    return isinstance(value, int) and not isinstance(value, bool)
+
+
+def is_number(value, least, most):
+    """Return whether a value is an integer from `least` to `most`."""
+    return is_integer(value) and least <= value <= most
+
+
+def check_number(value, least=0, most=MAX_NUMBER):
+    """Raise InvalidNumber unless a value is an integer from `least` to `most`."""
+    if not is_number(value, least, most):
+        # The value is not shown: Python cannot write out every integer.
+        raise InvalidNumber(f"not an integer from {least} to {most}")
+
+
+def is_kind(value):
+    """Return whether a value may be the name of a kind of pieces."""
+    if not isinstance(value, str) or value == DRINK:
+        return False
+    return 1 <= len(value) <= MAX_KIND_LENGTH and all(["a" <= letter <= "z" for letter in value])
