@@ -3,7 +3,7 @@
 from emptiesback.errors import InvalidNumber
 
 MAX_NUMBER = 10 ** 18
-MAX_KIND_LENGTH = 8
+MAX_LABEL_LENGTH = 8
 DRINK = "drink"
 
 
@@ -25,8 +25,13 @@ def check_number(value, least=0, most=MAX_NUMBER):
         raise InvalidNumber(f"not an integer from {least} to {most}")
 
 
+def is_label(value):
+    """Return whether a value is a string of one to eight letters a to z."""
+    if not isinstance(value, str) or not 1 <= len(value) <= MAX_LABEL_LENGTH:
+        return False
+    return all(["a" <= letter <= "z" for letter in value])
+
+
 def is_kind(value):
     """Return whether a value may be the name of a kind of pieces."""
-    if not isinstance(value, str) or value == DRINK:
-        return False
-    return 1 <= len(value) <= MAX_KIND_LENGTH and all(["a" <= letter <= "z" for letter in value])
+    return is_label(value) and value != DRINK

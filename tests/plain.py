@@ -52,11 +52,11 @@ def orders():
     return [first_kind, last_kind, drink_first, at_random(1), at_random(2), at_random(3)]
 
 
-def simulate(trades, bottles, choose):
+def simulate(trades, bottles, choose, pieces=()):
     """Drink and trade one by one; return the drinks, the trades, the pieces left and the steps."""
     drinks = 0
     made = {kind: 0 for kind, _, _ in trades}
-    loose = {kind: 0 for kind, _, _ in trades}
+    loose = {kind: dict(pieces).get(kind, 0) for kind, _, _ in trades}
     needs = {kind: needed for kind, _, needed in trades}
     steps = []
     while True:
@@ -92,31 +92,59 @@ def simulate_rounds(trades, bottles):
     return rounds
 
 
-def drinks_table(trades, count):
-    """Return the drinks for 0 bottles, 1 bottle and so on, for so many numbers of bottles.
+def ends_table(trades, count):
+    """Return (drinks, pieces left) for 0 bottles, 1 bottle and so on, for so many numbers of bottles.
 
     As the order does not matter, each next bottle is drunk after all others.
     """
     table = []
     drinks = 0
-    loose = [0] * len(trades)
+    loose = {kind: 0 for kind, _, _ in trades}
     for bottles in range(count):
         full = min(bottles, 1)
         while full:
             full -= 1
             drinks += 1
-            for at, (_, left, needed) in enumerate(trades):
-                loose[at] += left
-                while loose[at] >= needed:
-                    loose[at] -= needed
+            for kind, left, needed in trades:
+                loose[kind] += left
+                while loose[kind] >= needed:
+                    loose[kind] -= needed
                     full += 1
-        table.append(drinks)
+        table.append((drinks, dict(loose)))
     return table
 
 
-def bought(trades, drinks):
-    """Return how many bottles the pieces of so many drinks buy."""
-    return sum(left * drinks // needed for _, left, needed in trades)
+def drinks_table(trades, count):
+    """Return the drinks for 0 bottles, 1 bottle and so on, for so many numbers of bottles."""
+    return [drinks for drinks, _ in ends_table(trades, count)]
+
+
+def simulate_days(trades, full, pieces, start, count, may_give, is_open):
+    """Drink and trade one by one for so many days; return (day, drunk, given) where there is any.
+
+    `may_give` tells of a kind and a number of given bottles whether one more is given for the kind.
+    """
+    loose = {kind: dict(pieces).get(kind, 0) for kind, _, _ in trades}
+    given = 0
+    told = []
+    for day in range(start, start + count):
+        drunk, full = full, 0
+        for kind, left, _ in trades:
+            loose[kind] += left * drunk
+        for kind, _, needed in trades:
+            while is_open(day) and loose[kind] >= needed and may_give(kind, given):
+                loose[kind] -= needed
+                full += 1
+                given += 1
+        if drunk or full:
+            told.append((day, drunk, full))
+    assert not full, "not enough days"
+    return told
+
+
+def bought(trades, drinks, pieces=()):
+    """Return how many bottles the pieces of so many drinks buy, with those that are there at first."""
+    return sum((dict(pieces).get(kind, 0) + left * drinks) // needed for kind, left, needed in trades)
 
 
 def is_period(trades, drinks):

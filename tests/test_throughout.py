@@ -1,15 +1,24 @@
 """Point 1: what holds throughout, and where the interface says that its names stand."""
 
 import ast
+import copy
 import inspect
 import pathlib
+import random
 import unittest
 
 import emptiesback
-from emptiesback import errors, offers, steps
-from emptiesback.errors import InvalidNumber, InvalidOffer, InvalidStep, TradeError, UnknownKind
+from emptiesback import errors, observers, offers, receipts, shops, steps, stocks
+from emptiesback.errors import (
+    Contradiction, InvalidKind, InvalidNumber, InvalidOffer, InvalidReceipt, InvalidStep, NotEnough, TradeError,
+    UnknownKind,
+)
+from emptiesback.observers import BottleObserver
 from emptiesback.offers import Offer, better_from, first_difference
+from emptiesback.receipts import parse_receipt, receipt
+from emptiesback.shops import ChosenShop, DayShop, LimitedShop, Shop, last_day
 from emptiesback.steps import greedy_steps, play
+from emptiesback.stocks import Stock, gain_of, pieces_for, rest_of
 from plain import MOST, OFFERS
 
 PACKAGE = pathlib.Path(emptiesback.__file__).parent
@@ -90,6 +99,96 @@ class Unchanged(unittest.TestCase):
         self.assertEqual(told_by(offer), before)
 
 
+def things():
+    """Return an offer, a stock, an observer that has seen something, and a shop of each class."""
+    offer, stock = Offer(*TRADES), Stock(50, cap=9, rag=4)
+    observer = BottleObserver(offer)
+    observer.see_left("cap", 2)
+    observer.see_round(2, 1)
+    return offer, stock, observer, [Shop(offer), LimitedShop(offer, 5), ChosenShop(offer, "cap"), DayShop(offer, 7, 1)]
+
+
+def calls_of(offer, stock, observer, family):
+    """Return calls of all that tells something about the things, with equal results each time."""
+    calls = [
+        lambda: told_by(offer), lambda: offer.trades_made(10), lambda: offer.left_over(10),
+        lambda: list(offer.rounds(10)), lambda: greedy_steps(offer, 10), lambda: play(offer, 3, [("drink", 3)]),
+        lambda: stock.filled, lambda: stock.loose, lambda: [stock["full"], stock["cap"], stock["empty"]],
+        lambda: ["full" in stock, "empty" in stock, bool(stock), stock == stock * 1, stock <= stock * 2],
+        lambda: (stock + stock).loose, lambda: (stock - Stock(1, rag=3)).loose, lambda: (stock * 3).loose,
+        lambda: stock(offer), lambda: rest_of(offer, stock).loose, lambda: gain_of(offer, stock, stock),
+        lambda: pieces_for(offer, stock, "cap", 500),
+        lambda: observer.records, lambda: [observer.count_up_to(last) for last in [0, 50, MOST]],
+        lambda: [observer.nth_possible(number) for number in [1, 50, MOST]],
+        lambda: parse_receipt("***************shop***************"),
+    ]
+    for shop in family:
+        calls += [
+            lambda shop=shop: [shop.KIND, shop.terms.trades], lambda shop=shop: shop(stock),
+            lambda shop=shop: list(shop.days(stock, 3)), lambda shop=shop: last_day(shop, stock, 3),
+            lambda shop=shop: receipt(shop, stock), lambda shop=shop: parse_receipt(receipt(shop, stock)),
+        ]
+    return calls
+
+
+def spoil(value):
+    """Modify all lists and dicts in a value."""
+    if isinstance(value, (list, tuple)):
+        for part in value:
+            spoil(part)
+    if isinstance(value, list):
+        value.append("spoiled")
+        value.reverse()
+    if isinstance(value, dict):
+        for key in value:
+            value[key] = "spoiled"
+        value["spoiled"] = 0
+
+
+class Again(unittest.TestCase):
+    def test_in_another_order_with_all_returned_lists_and_dicts_modified(self):
+        chance = random.Random(24)
+        calls = calls_of(*things())
+        expected = [copy.deepcopy(call()) for call in calls]
+        for _ in range(5):
+            for at in chance.sample(range(len(calls)), len(calls)):
+                told = calls[at]()
+                self.assertEqual(told, expected[at], at)
+                spoil(told)
+
+    def test_with_new_things(self):
+        self.assertEqual([call() for call in calls_of(*things())], [call() for call in calls_of(*things())])
+
+    def test_with_calls_between_them_that_raise_an_error(self):
+        offer, stock, observer, family = things()
+        calls = calls_of(offer, stock, observer, family)
+        expected = [copy.deepcopy(call()) for call in calls]
+        for wrong, error in [
+            (lambda: observer.see_left("cap", 9), Contradiction), (lambda: observer.see_left("rag", 0), UnknownKind),
+            (lambda: observer.see_left("cap", 1), Contradiction), (lambda: observer.see_round(2, 0), Contradiction),
+            (lambda: observer.see_round(3, 0), InvalidNumber), (lambda: observer.count_up_to(-1), InvalidNumber),
+            (lambda: observer.nth_possible(0), InvalidNumber), (lambda: stock - Stock(9, cap=10), NotEnough),
+            (lambda: stock + Stock(MOST), InvalidNumber), (lambda: stock * -1, InvalidNumber),
+            (lambda: gain_of(offer, stock, Stock(MOST)), InvalidNumber),
+            (lambda: pieces_for(offer, stock, "rag", 1), UnknownKind),
+            (lambda: pieces_for(offer, stock, "cap", -1), InvalidNumber),
+            (lambda: LimitedShop(offer, -1), InvalidNumber), (lambda: ChosenShop(offer, "rag"), UnknownKind),
+            (lambda: DayShop(offer, 7, 7), InvalidNumber), (lambda: list(family[0].days(stock, -1)), InvalidNumber),
+            (lambda: last_day(family[3], stock, -1), InvalidNumber), (lambda: parse_receipt("full 10"), InvalidReceipt),
+            (lambda: Stock(1, drink=3), InvalidKind),
+        ]:
+            with self.assertRaises(error):
+                wrong()
+            self.assertEqual([call() for call in calls], expected)
+
+    def test_generators_that_are_not_read_to_their_end(self):
+        _, stock, _, family = things()
+        for shop in family:
+            whole = list(shop.days(stock, 3))
+            next(shop.days(stock, 3))
+            self.assertEqual(list(shop.days(stock, 3)), whole)
+
+
 class Arguments(unittest.TestCase):
     def test_a_boolean_is_not_an_integer(self):
         offer = Offer(*TRADES)
@@ -111,6 +210,20 @@ class Arguments(unittest.TestCase):
                 Offer(("cap", 0, value))
             self.assertIs(value in offer, False)
 
+    def test_a_boolean_is_not_an_integer_in_part_2(self):
+        offer, stock, observer, family = things()
+        for value in [True, False]:
+            for call in [
+                Stock, lambda number: Stock(0, cap=number), lambda number: stock * number,
+                lambda number: pieces_for(offer, stock, "cap", number), lambda number: LimitedShop(offer, number),
+                lambda number: DayShop(offer, number), lambda number: DayShop(offer, 7, number),
+                lambda number: list(family[0].days(stock, number)), lambda number: last_day(family[1], stock, number),
+                lambda number: observer.see_round(number, 0), lambda number: observer.see_round(1, number),
+                observer.count_up_to, observer.nth_possible,
+            ]:
+                with self.assertRaises(InvalidNumber):
+                    call(value)
+
     def test_what_is_no_integer_at_all(self):
         for value in ["3", 3.0, None]:
             with self.assertRaises(InvalidNumber):
@@ -124,11 +237,18 @@ class Arguments(unittest.TestCase):
             Offer(("cap", 12, 1), ("cap", 12, 1))
         with self.assertRaises(UnknownKind):
             Offer(("cap", 1, 3)) - "rag"
+        with self.assertRaises(InvalidNumber):
+            Stock(-1, drink=1)
+        with self.assertRaises(UnknownKind):
+            pieces_for(offer, Stock(), "rag", -1)
+        with self.assertRaises(UnknownKind):
+            BottleObserver(offer).see_left("rag", -1)
 
     def test_generators_raise_when_the_iteration_begins(self):
         offer = Offer(*TRADES)
         for generator in [offer.rounds(-1), offer.rounds(MOST + 1), offer.missing(-1, 3), offer.missing(3, 2),
-                          offer.missing(0, 10000), offer.missing(0, MOST + 1)]:
+                          offer.missing(0, 10000), offer.missing(0, MOST + 1), Shop(offer).days(Stock(), -1),
+                          DayShop(offer, 7).days(Stock(1), MOST + 1)]:
             self.assertTrue(inspect.isgenerator(generator))
             with self.assertRaises(InvalidNumber):
                 next(generator)
@@ -153,22 +273,40 @@ class Arguments(unittest.TestCase):
             numbers = [offer(bottles), offer.credit(bottles), offer.fewest_bottles(bottles),
                        offer.count_missing(bottles), offer.pooled(bottles), *offer.trades_made(bottles).values(),
                        *offer.left_over(bottles).values(), *offer.rounds(bottles), *offer.period]
+            stock = Stock(bottles, cap=bottles)
+            observer = BottleObserver(offer)
+            numbers += [stock.filled, *stock.loose.values(), stock["cap"], stock["rag"], stock(offer),
+                        gain_of(offer, stock), pieces_for(offer, stock, "cap", bottles), Shop(offer)(stock),
+                        *[number for day in Shop(offer).days(stock, bottles) for number in day],
+                        observer.see_round(1, 0), observer.see_left("cap", 2), observer.count_up_to(bottles)]
             self.assertEqual({type(number) for number in numbers}, {int})
 
 
 class Interface(unittest.TestCase):
-    METHODS = ["__init__", "simple", "__call__", "trades_made", "left_over", "rounds", "credit", "fewest_bottles",
-               "missing", "count_missing", "nth_missing", "pooled", "trades", "kinds", "period", "steady_from",
-               "__add__", "__sub__", "__getitem__", "__bool__", "__contains__", "__le__", "__lt__", "__ge__",
-               "__gt__", "MAX_TRADES", "MAX_NEEDED"]
+    METHODS = {
+        Offer: ["__init__", "simple", "__call__", "trades_made", "left_over", "rounds", "credit", "fewest_bottles",
+                "missing", "count_missing", "nth_missing", "pooled", "trades", "kinds", "period", "steady_from",
+                "__add__", "__sub__", "__getitem__", "__bool__", "__contains__", "__le__", "__lt__", "__ge__",
+                "__gt__", "MAX_TRADES", "MAX_NEEDED"],
+        BottleObserver: ["__init__", "records", "see_left", "see_round", "count_up_to", "nth_possible"],
+        Stock: ["__init__", "filled", "loose", "__getitem__", "__contains__", "__bool__", "__eq__", "__le__",
+                "__ge__", "__add__", "__sub__", "__mul__", "__call__"],
+        Shop: ["__init__", "KIND", "terms", "days", "__call__"],
+        LimitedShop: ["__init__", "KIND", "__call__"],
+        ChosenShop: ["__init__", "KIND", "__call__"],
+        DayShop: ["__init__", "KIND", "__call__"],
+    }
 
     def test_methods_are_defined_in_the_class_itself(self):
-        for name in self.METHODS:
-            self.assertIn(name, vars(Offer))
+        for owner, names in self.METHODS.items():
+            for name in names:
+                self.assertIn(name, vars(owner))
 
     def test_properties_and_the_class_method(self):
-        for name in ["trades", "kinds", "period", "steady_from"]:
-            self.assertIsInstance(vars(Offer)[name], property)
+        for owner, names in [(Offer, ["trades", "kinds", "period", "steady_from"]), (BottleObserver, ["records"]),
+                             (Stock, ["filled", "loose"]), (Shop, ["terms"])]:
+            for name in names:
+                self.assertIsInstance(vars(owner)[name], property)
         self.assertIsInstance(vars(Offer)["simple"], classmethod)
 
     def test_names_are_defined_in_their_files(self):
@@ -177,6 +315,10 @@ class Interface(unittest.TestCase):
                       "Contradiction", "InvalidKind", "NotEnough", "InvalidReceipt"]),
             (offers, ["Offer", "first_difference", "better_from"]),
             (steps, ["play", "greedy_steps"]),
+            (observers, ["BottleObserver"]),
+            (stocks, ["Stock", "rest_of", "gain_of", "pieces_for"]),
+            (shops, ["Shop", "LimitedShop", "ChosenShop", "DayShop", "last_day"]),
+            (receipts, ["receipt", "parse_receipt"]),
         ]:
             for name in names:
                 self.assertEqual(getattr(module, name).__module__, module.__name__)
@@ -195,6 +337,23 @@ class Interface(unittest.TestCase):
         self.assertEqual(better_from(one=offer, other=Offer.simple(3)), 3)
         self.assertEqual(play(offer=offer, bottles=3, steps=[("drink", 1)])[:2], (1, 2))
         self.assertEqual(greedy_steps(offer=offer, bottles=1), [("drink", 1)])
+
+    def test_names_of_the_arguments_in_part_2(self):
+        offer, stock = Offer(*TRADES), Stock(full=10, cap=1)
+        observer = BottleObserver(offer=offer)
+        self.assertEqual(observer.see_left(kind="cap", count=2), observer.see_left("cap", 2))
+        self.assertEqual(observer.see_round(number=1, parity=1), observer.see_round(1, 1))
+        self.assertEqual([observer.count_up_to(last=7), observer.nth_possible(number=1)],
+                         [observer.count_up_to(7), observer.nth_possible(1)])
+        self.assertEqual([stock(offer=offer), rest_of(offer=offer, stock=stock)], [stock(offer), rest_of(offer, stock)])
+        self.assertEqual(pieces_for(offer=offer, stock=stock, kind="cap", drinks=99),
+                         pieces_for(offer, stock, "cap", 99))
+        for shop in [Shop(offer=offer), LimitedShop(offer=offer, most=9), ChosenShop(offer=offer),
+                     DayShop(offer=offer, length=7)]:
+            self.assertEqual(list(shop.days(stock=stock, start=3)), list(shop.days(stock, 3)))
+            self.assertEqual(shop(stock=stock), shop(stock))
+            self.assertEqual(last_day(shop=shop, stock=stock, start=3), last_day(shop, stock, 3))
+            self.assertEqual(parse_receipt(text=receipt(shop=shop, stock=stock)), parse_receipt(receipt(shop, stock)))
 
 
 class Files(unittest.TestCase):
